@@ -1,0 +1,1 @@
+"""Deeds on drawn nets, told for all nets at once."""
