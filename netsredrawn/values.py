@@ -1,6 +1,6 @@
 """What a passed value may be: integers, words and rows of words."""
 
-from netsredrawn.errors import BadNumber, BadWord
+from netsredrawn.errors import BadLot, BadNumber, BadWord
 
 
 def is_number(value):
@@ -49,4 +49,14 @@ def need_words(wordlist):
         raise BadWord(None)
     for word in wordlist:
         need_word(word)
+    return wordlist
+
+
+def need_word_list(wordlist, most):
+    """The tuple of at most 12 words of at most so many characters each."""
+    if not isinstance(wordlist, tuple) or len(wordlist) > 12:
+        raise BadLot(None)
+    for place, word in enumerate(wordlist):
+        if not is_word(word) or len(word) > most:
+            raise BadLot(place)
     return wordlist
