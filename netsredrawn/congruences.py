@@ -46,8 +46,10 @@ def _top(above, name):
     top = name
     while above[top] != top:
         top = above[top]
-    while above[name] != top:
-        above[name], name = top, above[name]
+    while name != top:
+        between = above[name]
+        above[name] = top
+        name = between
     return top
 
 

@@ -2,6 +2,7 @@
 
 from netsredrawn.errors import TooGreat
 from netsredrawn.lots import need_table
+from netsredrawn.pairing import paired_rows
 from netsredrawn.syllables import back_text, coded, joined_text
 from netsredrawn.tables import (
     MOST_NUMBERS, cut_leaves, generator_words, grown_along, holds_word, listed_rows, ordered_table,
@@ -18,40 +19,11 @@ def _limited_table(table):
     return table
 
 
-def _pair_step(table, other_table, change, pair):
-    """The pair of numbers to which a change leads in both tables, or None."""
-    there = table[change][pair[0]]
-    other = other_table[change][pair[1]]
-    if there is None or other is None:
-        return None
-    return there, other
-
-
-def _both_tables(table, other_table):
-    """What is reached in both tables at once, as a table of lists, unordered and uncut."""
-    pairs = [(0, 0)]
-    place = {(0, 0): 0}
-    rows = [[], [], []]
-    at = 0
-    while at < len(pairs):
-        for change in range(3):
-            there = _pair_step(table, other_table, change, pairs[at])
-            if there is None:
-                rows[change].append(None)
-                continue
-            if there not in place:
-                place[there] = len(pairs)
-                pairs.append(there)
-            rows[change].append(place[there])
-        at += 1
-    return rows
-
-
 def meet(table, other_table):
     """The table of the meet of two lots."""
     need_table(table)
     need_table(other_table)
-    rows = _both_tables(table, other_table)
+    rows = paired_rows(table, other_table)
     cut_leaves(rows, 0)
     return _limited_table(ordered_table(rows, 0))
 

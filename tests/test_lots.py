@@ -18,6 +18,19 @@ def random_list(rng, most=3, signs=9):
     return tuple(random_word(rng, signs) for _ in range(rng.randint(0, most)))
 
 
+def read_paper(wordlist, paper):
+    """The word that a paper tells, row by row."""
+    made = []
+    for row in paper:
+        if row[0] == "word":
+            made.append(rewritten(wordlist[row[1]]))
+        elif row[0] == "back":
+            made.append(rewritten(made[row[1]][::-1]))
+        else:
+            made.append(rewritten(made[row[1]] + made[row[2]]))
+    return made[-1] if made else ""
+
+
 def fault_slowly(value):
     """The first rule that fails and its place, of a value that keeps "form"."""
     zero, one, two = value
@@ -93,6 +106,7 @@ class LotsTest(unittest.TestCase):
                 self.assertTrue(extended_leads_home(table, rewritten(word)))
             # That each generator is in the lot is shown by a paper, read row by row.
             for word in generators(table):
+                self.assertEqual(read_paper(wordlist, spelled(wordlist, word)), word)
                 self.assertEqual(paper_word(wordlist, spelled(wordlist, word)), word)
             for word in rng.sample(words, 25):
                 held = extended_leads_home(table, word)
@@ -332,6 +346,7 @@ class FoldingTest(unittest.TestCase):
             wordlist = tuple(random_word(rng, 40) for _ in range(4))
             word = "".join(rng.choice(wordlist)[::rng.choice((1, -1))] for _ in range(8))
             paper = spelled(wordlist, word)
+            self.assertEqual(read_paper(wordlist, paper), rewritten(word))
             self.assertEqual(paper_word(wordlist, paper), rewritten(word))
             self.assertLessEqual(len(paper), 20000)
             for at, row in enumerate(paper):
