@@ -51,8 +51,8 @@ def all_parts(net):
 def renumbered_net(net, flags):
     """The net of some flags, closed under the changes, numbered in the order told."""
     place = {}
-    for number, flag in enumerate(flags):
-        place[flag] = number
+    for number, old in enumerate(flags):
+        place[old] = number
     return tuple([tuple([place[row[flag]] for flag in flags]) for row in net])
 
 

@@ -42,7 +42,7 @@ def ordered_table(table, root):
     place = {None: None}
     for number, old in enumerate(order):
         place[old] = number
-    return tuple([tuple([place[row[old]] for old in order]) for row in table])
+    return tuple([tuple([place[row[here]] for here in order]) for row in table])
 
 
 def cut_leaves(table, root):

@@ -19,6 +19,24 @@ def moved(word, mover):
     return rewritten(mover[::-1] + word + mover)
 
 
+def loose_table(rng, many):
+    """A table of so many squares of four numbers, in which two numbers have no change 1."""
+    names = list(range(4 * many))
+    rng.shuffle(names)
+    one = [None] * len(names)
+    for at in range(2, len(names), 2):
+        one[names[at]], one[names[at + 1]] = names[at + 1], names[at]
+    order = [0, 1, 2, 3]
+    for here in order:
+        there = one[here]
+        if there is not None and there not in order:
+            order += [there, there ^ 1, there ^ 2, there ^ 3]
+    place = {old: new for new, old in enumerate(order)}
+    place[None] = None
+    zero = tuple(place[old ^ 1] for old in order)
+    return zero, tuple(place[one[old]] for old in order), tuple(place[old ^ 2] for old in order)
+
+
 def full_table(rng, many):
     """A table of a lot of index many, so that each word has a place."""
     while True:
@@ -96,6 +114,14 @@ class MeetsTest(unittest.TestCase):
         with self.assertRaises(TooGreat) as caught:
             meet(one, two)
         self.assertEqual(caught.exception.most, 2500)
+        rng = random.Random(9)
+        one, two = loose_table(rng, 625), loose_table(rng, 600)
+        for pair in ((one, two), (two, one)):
+            with self.assertRaises(TooGreat) as caught:
+                meet(*pair)
+            self.assertEqual(caught.exception.most, 2500)
+        self.assertEqual(meet(one, one), one)
+        self.assertEqual(meet(two, ALL), two)
         # What can be cut off does not count.
         tail = "0121" * 10
         one, two = folded((tail + "012012" + tail[::-1],)), folded((tail + "0101" + tail[::-1],))

@@ -1,0 +1,74 @@
+"""The names and parameters of what has landed, as the document lists them."""
+
+import importlib
+import inspect
+import unittest
+
+INTERFACE = {
+    "words": """reduced(word) ; back(word) ; then(word, other_word) ; is_reduced(word)
+        is_ahead(word, other_word) ; is_mirror(word) ; mirror_of(word) ; times_home(word)""",
+    "classes": """least_conjugate(word) ; class_of(word) ; conjugator(word, other_word) ; root(word)
+        commuting(word)""",
+    "powers": """need_row(row) ; row_length(row) ; row_character(row, place) ; row_word(row)
+        are_same_rows(row, other_row) ; done_times(word, times)""",
+    "ranking": """number_of(word) ; word_numbered(number) ; words_of(length) ; classes_of(length)
+        next_words(word, many)""",
+    "turns": """turned(word, turn) ; turns_of(word) ; turn_then(turn, other_turn) ; turn_back(turn)
+        turns_kept(word) ; least_turned(word) ; turn_of(wordlist)""",
+    "nets": """net_fault(value) ; is_net(value) ; need_net(net) ; need_flag(net, flag) ; lead(net, flag, word)
+        path(net, flag, word) ; action(net, word) ; way(net, flag, other_flag) ; parts(net) ; is_joined(net)
+        need_joined(net) ; part_net(net, flag) ; beside(net, other_net)""",
+    "rounds": """rounds(net, wordlist) ; round_of(net, flag, wordlist) ; degrees(net, pair) ; euler_number(net)
+        cycle(net, flag, word) ; cycle_length(net, flag, word) ; cycle_number(net, word)
+        lead_often(net, flag, word, number) ; word_order(net, word)""",
+    "shapes": """reading_from(net, flag) ; least_net(net) ; likeness(net, other_net) ; are_alike(net, other_net)
+        is_likeness(net, other_net, value) ; need_likeness(net, other_net, likeness_told) ; symmetries(net)
+        symmetry_number(net)""",
+    "quotients": """fold_map(net, other_net) ; is_fold_map(net, other_net, value) ; fold_classes(net)
+        images_of(net) ; image_net(net, marks) ; folded_by(net, likenesses)
+        over_both(net, flag, other_net, other_flag)""",
+    "listing": """all_nets(many) ; rooted_number(number)""",
+    "named": """is_gluing(value) ; glued(gluing) ; gluing_of(net) ; ring(number) ; bundle(number)
+        grid(wide, high) ; twisted_grid(wide, high) ; solid(name)""",
+    "folding": """folded(wordlist) ; spelled(wordlist, word) ; paper_word(wordlist, paper)""",
+    "lots": """need_table(table) ; holds(table, word) ; place_of(table, word) ; way_to(table, number)
+        index_of(table) ; generators(table) ; kinds(table) ; parsed(table, word) ; mirror_in(table)""",
+    "meets": """meet(table, other_table) ; moved_lot(table, word) ; outside(table, other_table)
+        turning_word(table, other_table)""",
+    "closing": """completed(table) ; closing_net(wordlist) ; opening_net(wordlist, word)
+        parting_net(word, other_word)""",
+    "deeds": """need_deed(deed) ; rule_broken(deed) ; is_plain(deed) ; need_plain(deed)""",
+    "walks": """walked(deed, cell, walk) ; walk_order(deed, cell) ; tree_walks(deed, cell) ; loops(deed, cell)""",
+}
+
+
+def told(text):
+    """The pairs of a name and its parameters, in a text with ";" or line ends between two."""
+    for each in text.replace("\n", ";").split(";"):
+        name, _, rest = each.strip().rstrip(")").partition("(")
+        yield name, [part.strip() for part in rest.split(",")]
+
+
+class InterfaceTest(unittest.TestCase):
+
+    def test_names_and_parameters(self):
+        for module_name, text in INTERFACE.items():
+            module = importlib.import_module("netsredrawn." + module_name)
+            for name, parameters in told(text):
+                function = getattr(module, name)
+                self.assertTrue(inspect.isfunction(function), name)
+                self.assertEqual(function.__module__, module.__name__)
+                self.assertEqual(list(inspect.signature(function).parameters), parameters)
+
+    def test_by_name(self):
+        sphere = ((1, 0, 3, 2), (2, 3, 0, 1), (2, 3, 0, 1))
+        from netsredrawn.folding import folded
+        from netsredrawn.nets import lead
+        from netsredrawn.walks import walked
+        self.assertEqual(lead(word="01", flag=0, net=sphere), 3)
+        self.assertEqual(folded(wordlist=()), ((1, 0, 3, 2), (None,) * 4, (2, 3, 0, 1)))
+        self.assertEqual(walked(walk="01", cell=0, deed=(((0, "0"),), ((0, "1"),), ((0, "2"),))), (0, "01"))
+
+
+if __name__ == "__main__":
+    unittest.main()
