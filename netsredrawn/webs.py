@@ -45,12 +45,20 @@ class Web:
             self.above[each] = node
         return node, gap
 
-    def unite(self, node, other, row):
-        """Make two nodes one place: the word of node is the row THEN the word of other."""
+    def wait(self, node, other, row):
+        """Put down that two nodes are one place: the word of node is the row THEN the word of other."""
         self.waiting.append((node, other, row))
+
+    def fold(self):
+        """Make one place of all pairs of nodes that wait for it."""
         while self.waiting:
             node, other, row = self.waiting.pop()
             self.unite_one(node, other, row)
+
+    def unite(self, node, other, row):
+        """Make two nodes one place: the word of node is the row THEN the word of other."""
+        self.wait(node, other, row)
+        self.fold()
 
     def unite_one(self, node, other, row):
         """Put one of two nodes below the other; what follows from it is to wait."""
@@ -66,8 +74,8 @@ class Web:
         self.gaps[high] = gap
         if self.ones[high] is not None:
             self.carry_one(low, self.ones[high], papers.undone(gap))
-        self.waiting.append((high ^ 1, low ^ 1, gap))
-        self.waiting.append((high ^ 2, low ^ 2, gap))
+        self.wait(high ^ 1, low ^ 1, gap)
+        self.wait(high ^ 2, low ^ 2, gap)
 
     def carry_one(self, low, step, gap):
         """Let change 1 lead from a node also where it led from the one below it."""
@@ -78,7 +86,7 @@ class Web:
             self.ones[low] = (there, row)
         else:
             other, other_row = self.ones[low]
-            self.waiting.append((other, there, papers.joined(papers.undone(other_row), row)))
+            self.wait(other, there, papers.joined(papers.undone(other_row), row))
 
     def tie(self, node, other, row):
         """Let change 1 lead from node to other: its word THEN "1" is the row THEN that of other."""
@@ -96,16 +104,18 @@ class Web:
             self.ones[top] = (other_top, row)
             self.ones[other_top] = (top, papers.undone(row))
 
-    def add_loop(self, codes, row):
-        """Let a reduced row of codes lead from node 0 to itself; the row tells its word."""
+    def add_path(self, node, other, codes, row):
+        """Let a reduced row of codes lead from node to other, by a row of papers.
+
+        The word of node THEN the codes is the row THEN the word of other.
+        """
         tail = 0
         if codes and codes[-1] != ONE:
             tail = codes[-1]
             codes = codes[:-1]
         if not codes:
-            self.unite(tail, 0, row)
+            self.unite(node ^ tail, other, row)
             return
-        node = 0
         for code in codes[:-1]:
             if code == ONE:
                 there = self.new_square()
@@ -113,7 +123,7 @@ class Web:
                 node = there
             else:
                 node = node ^ code
-        self.tie(node, tail, row)
+        self.tie(node, other ^ tail, row)
 
     def led(self, codes):
         """The pair of the node to which codes lead from node 0, and the gap; None if nowhere."""
@@ -137,7 +147,7 @@ def web_of(words, papers):
     for place, word in enumerate(words):
         codes = coded(word)
         if codes:
-            web.add_loop(codes, papers.listed(place, reduced_text(word)))
+            web.add_path(0, 0, codes, papers.listed(place, reduced_text(word)))
     return web
 
 

@@ -39,6 +39,17 @@ INTERFACE = {
         parting_net(word, other_word)""",
     "deeds": """need_deed(deed) ; rule_broken(deed) ; is_plain(deed) ; need_plain(deed)""",
     "walks": """walked(deed, cell, walk) ; walk_order(deed, cell) ; tree_walks(deed, cell) ; loops(deed, cell)""",
+    "doing": """done(deed, net) ; flag_done(deed, net, flag, change)""",
+    "homes": """is_whole_deed(deed) ; need_whole(deed) ; homes(deed) ; own_lot(deed, cell)""",
+    "moving": """renumbered(deed, order) ; moved(deed, wordlist)""",
+    "broken": """breaking_net(table)""",
+    "makers": """deed_named(name)""",
+    "plainlist": """plain_deeds(many)""",
+    "sequence": """after(deed, other_deed) ; script_of(deedlist) ; many_times(deed, times)""",
+    "least": """weight(deed) ; least_deed(deed)""",
+    "renamings": """renaming(deed, other_deed) ; all_renamings(deed, other_deed) ; are_alike_deeds(deed, other_deed)
+        need_renaming(deed, other_deed, value) ; image_flag(deed, other_deed, value, net, flag)""",
+    "refusing": """refusals(deed, other_deed) ; need_refusal(deed, other_deed, value)""",
 }
 
 
