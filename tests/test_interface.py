@@ -49,6 +49,22 @@ INTERFACE = {
     "least": """weight(deed) ; least_deed(deed)""",
     "renamings": """renaming(deed, other_deed) ; all_renamings(deed, other_deed) ; are_alike_deeds(deed, other_deed)
         need_renaming(deed, other_deed, value) ; image_flag(deed, other_deed, value, net, flag)""",
+    "parting": """first_parting(deed, other_deed, most)""",
+    "turnings": """taken_up(deed) ; blind_to(deed) ; own_renamings(deed) ; cell_lots(deed)""",
+    "strips": """strips(deed, pair) ; round_degree(deed, net, pair, flag)""",
+    "forms": """class_word(word) ; need_form(form) ; total(form, net) ; form_sum(form, other_form)
+        form_times(form, number) ; word_total(word) ; pair_form(pair) ; parting_total(form, other_form)""",
+    "counting": """count_form(deed, pair) ; pulled(deed, form) ; rounds_made(deed, net, pair)
+        degree_counts(deed, net, pair)""",
+    "sizes": """cycle_net(word, many) ; degrees_told(deed, pair) ; degree_comes(deed, pair, degree)
+        common_divisor(deed, pair) ; degree_net(deed, pair, degree)""",
+    "euler": """euler_form(deed) ; keeps_euler(deed) ; number_table(deed) ; numbers_then(table, other_table)
+        numbers_after(table, counts, times, modulus)""",
+    "growth": """closed_lot(deed, form) ; lot_table(deed, lot) ; total_after(deed, net, form, times, modulus)
+        rounds_after(deed, net, pair, times, modulus) ; word_trail(deed, word)
+        cycle_after(deed, net, flag, word, times, modulus)""",
+    "dyes": """is_sign(value) ; need_sign(sign) ; count_of(word, sign) ; together(sign, other_sign) ; dyeing(net, sign)
+        signs_of(net) ; dyeing_paper(net, sign) ; is_dyeing_paper(net, sign, paper) ; common_signs(wordlist)""",
     "refusing": """refusals(deed, other_deed) ; need_refusal(deed, other_deed, value)""",
 }
 
