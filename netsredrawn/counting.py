@@ -7,7 +7,7 @@ from netsredrawn.nets import need_net
 from netsredrawn.rounds import need_pair
 from netsredrawn.steps import net_cycles, word_action
 from netsredrawn.strips import found_strips, strip_closing, strip_length
-from netsredrawn.syllables import put_code, spelled_out
+from netsredrawn.syllables import put_codes, spelled_out
 from netsredrawn.walks import walked_codes
 
 
@@ -34,14 +34,13 @@ def gathered_cycles(deed, word):
         while here != cell:
             met[here] = True
             here, more = walked_codes(deed, here, word)
-            for code in more:
-                put_code(codes, code)
+            put_codes(codes, more)
         words.append(spelled_out(codes))
     return words
 
 
 def pulled_word(deed, word):
-    """The class words, of any length, to which a class word is pulled: one for each cycle of cells."""
+    """The class words, or words as long as these, to which a class word is pulled: one for each cycle of cells."""
     return [class_text(each) for each in gathered_cycles(deed, word)]
 
 

@@ -6,7 +6,7 @@ from netsredrawn.listing import all_nets
 from netsredrawn.nets import need_net
 from netsredrawn.rounds import need_pair
 from netsredrawn.steps import net_cycles, word_action
-from netsredrawn.syllables import back_text, is_reduced_text, reduced_text
+from netsredrawn.syllables import back_text, coded, is_reduced_text, spelled_out, unwound
 from netsredrawn.values import is_number, is_word, need_word
 
 MOST_SIGNS = 9000
@@ -14,13 +14,11 @@ SHORT_WORDS = ("", "0", "1", "2", "02")
 
 
 def class_text(word):
-    """The class word of a word, both of any length."""
-    told = reduced_text(word)
-    least = least_in_class(told)
-    other = least_in_class(back_text(told))
-    if (len(other), other) < (len(least), least):
-        return other
-    return least
+    """The class word of a word of any length; of one that is too long to be told only the length is right."""
+    ring = spelled_out(unwound(coded(word))[1])
+    if len(ring) > MOST_SIGNS:
+        return ring
+    return min(least_in_class(ring), least_in_class(back_text(ring)))
 
 
 def short_class_word(word):

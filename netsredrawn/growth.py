@@ -9,7 +9,7 @@ from netsredrawn.matrices import led_often, number_power
 from netsredrawn.nets import need_flag, need_net
 from netsredrawn.rounds import need_pair
 from netsredrawn.steps import cycle_from, word_action
-from netsredrawn.syllables import put_code, reduced_text, spelled_out
+from netsredrawn.syllables import put_codes, reduced_text, spelled_out
 from netsredrawn.values import need_word
 from netsredrawn.walks import walked_codes
 
@@ -20,7 +20,7 @@ MOST_STAGES = 100
 
 
 def _word_form(deed, word):
-    """The form of one cycle of a word, pulled through a deed, with words of any length."""
+    """The form of one cycle of a word, pulled through a deed; of words that are too long only the length is right."""
     return summed_form([(each, 1) for each in pulled_word(deed, word)])
 
 
@@ -121,8 +121,7 @@ def _next_stage(deed, word):
     many = 1
     while here != 0:
         here, more = walked_codes(deed, here, word)
-        for code in more:
-            put_code(codes, code)
+        put_codes(codes, more)
         many = many + 1
     return many, spelled_out(codes)
 

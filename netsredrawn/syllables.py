@@ -20,6 +20,18 @@ def put_code(codes, code):
         codes.append(last ^ code)
 
 
+def put_codes(codes, more):
+    """Lead a reduced row of codes on by another one: only where they meet is anything looked at."""
+    at = 0
+    while at < len(more) and codes and (codes[-1] == ONE) == (more[at] == ONE):
+        last = codes.pop()
+        at += 1
+        if last != more[at - 1]:
+            codes.append(last ^ more[at - 1])
+            break
+    codes.extend(more[at:])
+
+
 def coded(word):
     """The codes of the reduced word of any word."""
     codes = []

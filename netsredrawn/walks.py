@@ -2,7 +2,7 @@
 
 from netsredrawn.deeds import need_deed
 from netsredrawn.errors import TooGreat
-from netsredrawn.syllables import CODES, back_text, joined_text, put_code, reduced_text, spelled_out
+from netsredrawn.syllables import back_text, coded, joined_text, put_codes, reduced_text, spelled_out
 from netsredrawn.values import need_number_in, need_word
 
 MOST_SIGNS = 20000
@@ -16,10 +16,13 @@ def need_cell(deed, cell):
 def walked_codes(deed, cell, walk):
     """The pair of the cell to which a walk leads and the reduced row of codes that it gathers."""
     codes = []
+    steps = {}
     for sign in reduced_text(walk):
+        key = (sign, cell)
         cell, word = deed[int(sign)][cell]
-        for each in word:
-            put_code(codes, CODES[each])
+        if key not in steps:
+            steps[key] = coded(word)
+        put_codes(codes, steps[key])
     return cell, codes
 
 

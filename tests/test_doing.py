@@ -301,6 +301,16 @@ class MovingTest(Case):
         self.assertEqual(self.told(TooGreat, "most", moved, SAME, (word + "01",)), 60)
         self.assertEqual(moved(told, ("10" * 14 + "1" + "0",)), moved(SAME, ("0",)))
         self.assertEqual(self.told(TooGreat, "most", moved, HALF, ("12" * 31, "12" * 31)), 60)
+        # No step leads cell 0 to itself, so that its word stands in the deed once.
+        rest = ("",) * 5
+        sixty = moved(TWOFOLD_OF_SIX, ("21" * 30,) + rest)
+        self.assertEqual(max(len(each) for row in sixty for _, each in row), 60)
+        self.assertEqual(moved(sixty, ("12" * 30,) + rest), TWOFOLD_OF_SIX)
+        self.assertEqual(after(SAME, sixty), sixty)
+        self.assertEqual(after(sixty, SAME), sixty)
+        self.assertEqual(self.told(TooGreat, "most", after, NAMED["spin"], sixty), 60)
+        self.assertEqual(self.told(TooGreat, "most", moved, TWOFOLD_OF_SIX, ("01" * 30,) + rest), 60)
+        self.assertEqual(self.told(TooGreat, "most", moved, TWOFOLD_OF_SIX, ("21" * 30 + "2",) + rest), 60)
 
     def test_wrong_values(self):
         self.bad_deeds(lambda deed: renumbered(deed, None))
