@@ -58,7 +58,7 @@ def images_of(net):
     for marks in fold_classes(net):
         image = class_steps(net, marks)
         found[least_part_form(image, list(range(len(image[0]))))] = True
-    return tuple([form for _, form in sorted([(len(form[0]), form) for form in found])])
+    return tuple([form for _, form in sorted([(len(each[0]), each) for each in found])])
 
 
 def _are_classes(net, marks):
