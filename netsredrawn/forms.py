@@ -6,7 +6,7 @@ from netsredrawn.listing import all_nets
 from netsredrawn.nets import need_net
 from netsredrawn.rounds import need_pair
 from netsredrawn.steps import net_cycles, word_action
-from netsredrawn.syllables import back_text, coded, is_reduced_text, spelled_out, unwound
+from netsredrawn.syllables import back_text, coded, spelled_out, unwound
 from netsredrawn.values import is_number, is_word, need_word
 
 MOST_SIGNS = 9000
@@ -31,7 +31,7 @@ def short_class_word(word):
 
 def is_long_class_word(value):
     """Whether a value is a long class word that is not too long."""
-    if not is_word(value) or len(value) > MOST_SIGNS or not is_reduced_text(value):
+    if not is_word(value) or len(value) > MOST_SIGNS:
         return False
     return value not in SHORT_WORDS and class_text(value) == value
 

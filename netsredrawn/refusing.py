@@ -3,7 +3,7 @@
 from netsredrawn.cellwebs import home_walks
 from netsredrawn.errors import BadPaper
 from netsredrawn.renamings import found_renamings, need_whole_ones
-from netsredrawn.syllables import ONE, back_text, is_mirror_row, is_reduced_text, joined_text, spelled_out
+from netsredrawn.syllables import ONE, back_text, is_mirror_row, joined_text, spelled_out
 from netsredrawn.values import is_number_in, is_word
 from netsredrawn.walks import closed_walks, walked_codes
 
@@ -115,8 +115,6 @@ def _is_right(deed, other_deed, value, cell):
     movers = _movers(walked_codes(other_deed, cell, walks[1])[1])
     if row[0] == "class":
         return not movers
-    if not movers or not is_reduced_text(row[1][0]) or not is_reduced_text(row[2][0]):
-        return False
     if (row[1][0], row[2][0]) not in (movers, movers[::-1]):
         return False
     return (_is_unlike(deed, other_deed, cell, row[1][0], row[1][1])

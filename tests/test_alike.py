@@ -145,6 +145,31 @@ class LeastTest(Case):
             if max(len(word) for row in deed for _, word in row) <= 4:
                 self.assertEqual(told, least[2])
 
+    def test_no_form_is_less(self):
+        # Among these are deeds of which many forms have the same weight.
+        level = [
+            (((0, "1021"), (1, "0"), (2, "02"), (3, "0210102")), ((3, "0121"), (2, "021"), (1, "102"), (0, "1210")),
+             ((2, "102"), (3, "2102"), (0, "021"), (1, "0212"))),
+            (((1, "0102"), (0, "0210")), ((0, "01212121210"), (1, "01210")), ((1, "2102"), (0, "0212"))),
+            (((1, "012"), (0, "210"), (3, "2"), (2, "2")), ((0, "1021"), (3, "2102"), (2, "010"), (1, "0212")),
+             ((2, "01021"), (3, "012"), (0, "10210"), (1, "210")))]
+        rng = random.Random(22)
+        words = reduced_words_up_to(9)
+        while len(level) < 40:
+            deed = patched_deed(rng, rng.randint(2, 4), 8)
+            if is_whole_deed(deed):
+                level.append(deed)
+        many = 0
+        for deed in level:
+            told = least_deed(deed)
+            key = (weight_slowly(told), signs_of(told), told)
+            for root in range(len(deed[0])):
+                for word in words:
+                    form = walked_form(told, root, word)
+                    self.assertLessEqual(key, (weight_slowly(form), signs_of(form), form))
+                    many += weight_slowly(form) == key[0]
+        self.assertGreater(many, 4 * sum(len(deed[0]) for deed in level))
+
     def test_walked_form_and_alike(self):
         rng = random.Random(3)
         for deed in whole_deeds(4, 40, 9) + [TWOFOLD, TWOFOLD_OF_SIX]:
@@ -440,6 +465,7 @@ class RefusingTest(Case):
         row = ("walks", ("", "0"), ("1", "0"))
         wrong_rows = OTHERS + [(), "away", ("away",), ("away", 3), ("away", -1), ("away", True), ("away", "0"), ("away", 0, 0),
                                ("class", 0), ["class"], (("class",),), ("walks",), row[:2], row + (("", ""),), ("other",),
+                               ("walk",) + row[1:], (b"walks",) + row[1:],
                                ("walks", ("", "0"), ("1",)), ("walks", ("", "0"), ["1", "0"]), ("walks", ("", "3"), ("1", "0")),
                                ("walks", ("", 0), ("1", "0")), ("walks", (None, "0"), ("1", "0")), (STRANGE,), (None, 0)]
         for wrong in wrong_rows:

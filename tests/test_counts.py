@@ -14,7 +14,7 @@ from netsredrawn.forms import (
     class_word, form_sum, form_times, need_form, pair_form, parting_total, total, word_total)
 from netsredrawn.listing import all_nets
 from netsredrawn.makers import NAMES, deed_named
-from netsredrawn.moving import moved
+from netsredrawn.moving import renumbered
 from netsredrawn.nets import is_joined, need_net
 from netsredrawn.rounds import degrees, euler_number, rounds
 from netsredrawn.sequence import many_times
@@ -97,7 +97,9 @@ class Case(unittest.TestCase):
             self.assertEqual(self.told(BadTable, "word", call, value), "form")
             self.assertIsNone(self.told(BadTable, "place", call, value))
         good = ("01", 1)
-        for item in (None, True, "01", ("01",), ("01", 1, 1), ["01", 1], ("01", 0), ("01", True), ("01", "1"), (1, "01"), (None, 1),
+        for item in (("12", 0), ("12", True), ("12", False), ("12", "1"), ("12", None), ("12", (1,)), ("12",), ["12", 1], ("12", 1, 1),
+                     ("10" * 4501, 1), ("01" * 4501, 1), ("121", 1), ("2", 1),
+                     None, True, "01", ("01",), ("01", 1, 1), ["01", 1], ("01", 0), ("01", True), ("01", "1"), (1, "01"), (None, 1),
                      ("", 1), ("0", 1), ("02", 1), ("1", 2), ("10", 1), ("21", 1), ("012", 1.5), ("1012", 1), ("013", 1),
                      ("0 1", 1), ("210", 1), ("20", 1), ("001", 1), (("01", 1), 1), good, ("00", 1)):
             for value in ((0, (good, item)), (0, (good, item, None))):
@@ -501,6 +503,14 @@ class SizesTest(Case):
         self.assertEqual(degrees_told(SAME, "02"), ((2,), ()))
         self.assertEqual(common_divisor(deed_named("raise"), "12"), 1)
         self.assertEqual(common_divisor(many_times(NAMED["twin"], 3), "12"), 8)
+        # A strip whose degrees are fixed stands ahead of the one on which this degree comes.
+        other = renumbered(HALF, (1, 0))
+        self.assertEqual(degrees_told(other, "12"), ((2,), (1,)))
+        for degree in (1, 3, 4, 6, 240):
+            net, flag = degree_net(other, "12", degree)
+            self.assertEqual(round_degree(other, net, "12", flag), degree)
+        self.assertEqual(degree_comes(other, "12", 2), "always")
+        self.assertEqual(round_degree(other, degree_net(other, "12", 2)[0], "12", degree_net(other, "12", 2)[1]), 2)
         # Of strips that are too great and others that are not, one of the others is taken.
         net, flag = degree_net(deed_named("raise"), "12", 480)
         self.assertEqual(round_degree(deed_named("raise"), net, "12", flag), 480)
@@ -598,12 +608,14 @@ class EulerTest(Case):
         good = number_table(HALF)
         for value in OTHERS + [good[:2], good + good[:1], list(good), (list(good[0]), good[1], good[2]), (good[0], (1, 2), good[2]),
                                (good[0], good[1], (1, 2, True)), (good[0], good[1], (1, 2, None)), ((1, 2, "3"), good[1], good[2]),
+                               (good[0], (1, True, 2), good[2]), ((None, 1, 2), good[1], good[2]), (good[0], (1, "2", 3), good[2]),
                                "abc", (1, 2, 3), (good[0], good[1], ((1,), 2, 3))]:
             for call in (lambda table: numbers_then(table, None), lambda table: numbers_then(good, table),
+                         lambda table: numbers_then(table, good),
                          lambda table: numbers_after(table, None, None, None)):
                 self.assertEqual(self.told(BadTable, "word", call, value), "numbers")
                 self.assertIsNone(self.told(BadTable, "place", call, value))
-        for value in OTHERS + [(1, 2), (1, 2, 3, 4), [1, 2, 3], (1, 2, True), (1, 2, None), (1, 2, "3"), "123", good]:
+        for value in OTHERS + [(1, 2), (1, 2, 3, 4), [1, 2, 3], (1, 2, True), (1, None, 2), (False, 1, 2), (1, 2, "3"), "123", good]:
             self.assertEqual(self.told(BadTable, "word", numbers_after, good, value, None, None), "counts")
         for value in NO_INTEGERS + [-1, 10 ** 30 + 1]:
             self.assertIs(self.told(BadNumber, "value", numbers_after, good, (1, 1, 1), value, None), value)

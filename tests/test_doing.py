@@ -8,14 +8,14 @@ from deed_common import (
     APART, HOMELESS, NAMED, TWOFOLD, TWOFOLD_OF_SIX, after_slowly, done_slowly, fault_slowly, few_gathered,
     moved_slowly, one_cell, patched_deed, random_deed, walked_slowly)
 from netsredrawn.broken import breaking_net
-from netsredrawn.cellwebs import home_walks
+from netsredrawn.cellwebs import home_walks, own_table
 from netsredrawn.deeds import need_deed, rule_broken
 from netsredrawn.doing import done, flag_done
 from netsredrawn.errors import (
     BadDeed, BadFlag, BadName, BadNet, BadNumber, BadScript, BadWord, NotWhole, TooGreat)
 from netsredrawn.folding import folded, lot_table_of
 from netsredrawn.homes import homes, is_whole_deed, need_whole, own_lot
-from netsredrawn.lots import generators, holds
+from netsredrawn.lots import generators, holds, need_table
 from netsredrawn.makers import NAMES, deed_named
 from netsredrawn.moving import moved, renumbered
 from netsredrawn.nets import is_joined, lead, need_net
@@ -251,11 +251,31 @@ class HomesTest(Case):
         self.assertIsNone(rule_broken(deed))
         self.assertEqual(self.told(TooGreat, "most", own_lot, deed, 3), 2500)
         self.assertFalse(is_whole_deed(deed))
-        for cells, length in ((6, 28), (8, 28), (9, 28), (10, 28)):
-            try:
-                self.assertLessEqual(len(own_lot(great(cells, length), 0)[0]), 2500)
-            except TooGreat as error:
-                self.assertEqual(error.most, 2500)
+        # Just 2,500 numbers are told, four more are not.
+        kinds = {}
+        while len(kinds) < 2:
+            deed = great(9, rng.choice((22, 24, 26)))
+            many = len(own_table(deed, 0)[0])
+            if many in (2500, 2504) and many not in kinds:
+                kinds[many] = True
+                if many == 2500:
+                    self.assertEqual(len(own_lot(deed, 0)[0]), 2500)
+                    self.assertIsNone(need_table(own_lot(deed, 0)))
+                else:
+                    self.assertEqual(self.told(TooGreat, "most", own_lot, deed, 0), 2500)
+
+    def test_own_lots_are_tables(self):
+        rng = random.Random(20)
+        for _ in range(150):
+            deed = patched_deed(rng, rng.randint(1, 6), rng.randint(0, 8))
+            for cell in range(len(deed[0])):
+                self.assertIsNone(need_table(own_lot(deed, cell)))
+        # A net as a deed: all closed walks gather "".
+        for net in (SPHERE, random_net(rng, 8)):
+            deed = tuple(tuple((there, "") for there in row) for row in net)
+            self.assertIsNone(rule_broken(deed))
+            self.assertEqual(own_lot(deed, 3), folded(()))
+            self.assertFalse(is_whole_deed(deed))
 
     def test_wrong_values(self):
         for call in (is_whole_deed, need_whole, homes, lambda deed: own_lot(deed, None)):

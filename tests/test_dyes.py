@@ -116,6 +116,9 @@ class DyesTest(unittest.TestCase):
                     self.assertEqual(word, rewritten(word))
                     self.assertEqual((led(net, flag, word), count_slowly(word, sign)), (flag, 1))
                     self.assertLessEqual(len(word), 2000)
+                    self.assertIs(is_dyeing_paper(net, sign, ("even", flag, word)), False)
+                    self.assertIs(is_dyeing_paper(net, sign, ("odd", flag, word, word)), False)
+                    self.assertIs(is_dyeing_paper(net, sign, ["odd", flag, word]), False)
                     more = word + "0110"
                     self.assertIs(is_dyeing_paper(net, sign, ("odd", flag, more)), True)
                     for wrong in (word + word, word + "0", "", word[:-1]):
@@ -131,6 +134,8 @@ class DyesTest(unittest.TestCase):
         self.assertIs(is_dyeing_paper(net, 7, ("odd", flag, fits)), True)
         self.assertGreater(len(fits), 1998)
         self.assertIs(is_dyeing_paper(net, 7, ("odd", flag, fits + "00")), False)
+        for many, right in ((998, True), (999, True), (1000, False)):
+            self.assertIs(is_dyeing_paper(SPHERE, 2, ("odd", 3, "12" + "00" * many)), right)
 
     def test_great_nets(self):
         rng = random.Random(5)
@@ -150,7 +155,7 @@ class DyesTest(unittest.TestCase):
         for net in list(every_net(4)) + [solid("cube")]:
             for sign in range(8):
                 colors = dyeing(net, sign)
-                for wrong in OTHERS + ["dyeing", ("dyeing",), ("odd",), ("dyeing", None), ("dyeing", ()), ("odd", 0), ("odd", 0, None),
+                for wrong in OTHERS + [(), "dyeing", ("dyeing",), ("odd",), ("dyeing", None), ("dyeing", ()), ("odd", 0), ("odd", 0, None),
                                        ("odd", None, "0"), ("odd", -1, "0"), ("odd", len(net[0]), "0"), ("odd", True, "0"),
                                        ("odd", 0, "3"), ("odd", 0, ("0",)), ("odd", 0, ""), ("odd", 0, "0", "0"), ("even", 0, "0"),
                                        (None, 0, "0"), (["odd"], 0, "0"), ["odd", 0, "0"], (STRANGE,), ("dyeing", "0" * len(net[0])),
