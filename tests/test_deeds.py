@@ -116,7 +116,8 @@ class DeedsTest(unittest.TestCase):
             (((0, "0", ""),), same[1], same[2]), (([0, "0"],), same[1], same[2]), (((True, "0"),), same[1], same[2]),
             (((False, "0"),), same[1], same[2]), (((1, "0"),), same[1], same[2]), (((-1, "0"),), same[1], same[2]),
             ((("0", "0"),), same[1], same[2]), (((None, "0"),), same[1], same[2]), ((None,), same[1], same[2]), "012", 3,
-            (((0,),), same[1], same[2]), ("0", "1", "2")]
+            (((0,),), same[1], same[2]), ("0", "1", "2"), (same[0], list(same[1]), same[2]), (same[0], same[1], list(same[2])),
+            (same[0], same[1] * 2, same[2]), (same[0], same[1], ()), (HALF[0], HALF[1], HALF[2][:1]), (HALF[0], same[1], HALF[2])]
         for value in wrong:
             self.assertEqual(rule_broken(value), ("form", None))
             for call in (need_deed, is_plain, need_plain, lambda d: walk_order(d, None), lambda d: tree_walks(d, None),

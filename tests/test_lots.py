@@ -4,7 +4,7 @@ import unittest
 
 from common import NO_INTEGERS, NO_WORDS, OTHERS, random_word, reduced_words_up_to, rewritten
 from netsredrawn.errors import BadLot, BadNumber, BadPaper, BadTable, BadWord
-from netsredrawn.folding import folded, paper_word, spelled
+from netsredrawn.folding import folded, lot_table_of, paper_word, spelled
 from netsredrawn.lots import (
     generators, holds, index_of, kinds, mirror_in, need_table, parsed, place_of, way_to)
 
@@ -278,7 +278,9 @@ class LotsTest(unittest.TestCase):
         wrong = OTHERS + [
             (), ((), (), ()), [NOTHING], list(NOTHING), NOTHING[:2], NOTHING + NOTHING[:1], (list(ALL[0]), ALL[1], ALL[2]),
             ((None,), (0,), (0,)), ((0,), (0,), (None,)), ((0,), (False,), (0,)), ((1,), (0,), (0,)), ((0,), (-1,), (0,)),
-            ((0,), ("0",), (0,)), ((0,), (0, 1), (0,)), ((0,), ((0,),), (0,)), "0", 3]
+            ((0,), ("0",), (0,)), ((0,), (0, 1), (0,)), ((0,), ((0,),), (0,)), "0", 3,
+            ((0,), (0, 0), (0,)), ((0,), (0,), (0, 0)), ((0, 1), (0, 1), (0,)), ((0, 1), (0,), (0, 1)), (ALL[0], list(ALL[1]), ALL[2]),
+            (ALL[0], ALL[1], list(ALL[2])), ((0,), (), (0,)), ((0,), (0,), ())]
         for value in wrong:
             with self.assertRaises(BadTable) as caught:
                 need_table(value)
@@ -305,6 +307,13 @@ class LotsTest(unittest.TestCase):
         self.assertFalse(holds(table, "021" * 624))
         self.assertEqual(len(generators(table)), 1)
         self.assertIn(generators(table)[0], ("021" * 625, "102" * 625))
+        # Numbers that are too many by one: a long way to a place that "0" and "2" lead to itself.
+        way = "1" + "01" * 624
+        table = lot_table_of((way[::-1] + "0" + way, way[::-1] + "2" + way))
+        self.assertEqual(len(table[0]), 2501)
+        with self.assertRaises(BadTable) as caught:
+            need_table(table)
+        self.assertEqual((caught.exception.word, caught.exception.place), ("form", None))
         for row in (tuple(range(2504)),):
             with self.assertRaises(BadTable) as caught:
                 need_table((tuple(at ^ 1 for at in row), (None,) * 2504, tuple(at ^ 2 for at in row)))
@@ -375,6 +384,13 @@ class FoldingTest(unittest.TestCase):
             paper_word(("01",), tuple(grown))
         self.assertEqual(caught.exception.word, "great")
         self.assertEqual(paper_word(("01",), (("word", 0),) * 50000), "01")
+        hundred = ("01" * 50, "0")
+        fifty = [("word", 0)] + [("then", 0, at) for at in range(49)]
+        self.assertEqual(paper_word(hundred, tuple(fifty)), "01" * 2500)
+        for row in (("then", 49, 50), ("then", 49, 0)):
+            with self.assertRaises(BadPaper) as caught:
+                paper_word(hundred, tuple(fifty + [("word", 1), row]))
+            self.assertEqual(caught.exception.word, "great")
 
     def test_wrong_papers(self):
         cases = ((None, "form"), ([], "form"), ("", "form"), ({}, "form"), (True, "form"), ((("word", 0),) * 50001, "form"),

@@ -222,9 +222,13 @@ class MeetsTest(unittest.TestCase):
                 with self.assertRaises(BadTable) as caught:
                     call(value)
                 self.assertEqual((caught.exception.word, caught.exception.place), ("form", None))
-        with self.assertRaises(BadTable) as caught:
-            meet(((0, 0), (0, 1), (1, 1)), None)
-        self.assertEqual((caught.exception.word, caught.exception.place), ("back", 0))
+        broken = ((0, 0), (0, 1), (1, 1))
+        for call in (meet, outside, turning_word):
+            for tables, fault in (((broken, None), ("back", 0)), ((broken, ALL), ("back", 0)), ((ALL, broken), ("back", 0)),
+                                  ((None, broken), ("form", None))):
+                with self.assertRaises(BadTable) as caught:
+                    call(*tables)
+                self.assertEqual((caught.exception.word, caught.exception.place), fault)
         for word in NO_WORDS + ["x"]:
             with self.assertRaises(BadWord):
                 moved_lot(ALL, word)

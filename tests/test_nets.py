@@ -73,7 +73,8 @@ class NetsTest(unittest.TestCase):
             (ZERO, TWO, None), ((1, 0, 3, 4), TWO, TWO), ((1, 0, 3, -2), TWO, TWO), ((True, 0, 3, 2), TWO, TWO),
             ((1, False, 3, 2), TWO, TWO), ((1, "0", 3, 2), TWO, TWO), ((1, None, 3, 2), TWO, TWO),
             ((1, 0, 3), TWO, TWO), (ZERO, TWO + (4,), TWO), ((), (), ()), ((1, 0), (1, 0), (1, 0)),
-            ((1, (0,), 3, 2), TWO, TWO), "010", 7]
+            ((1, (0,), 3, 2), TWO, TWO), "010", 7, (ZERO, TWO + (0,), TWO), (ZERO, TWO, TWO + (3,)), (ZERO, TWO[:3], TWO),
+            (ZERO, TWO, ()), (ZERO, TWO, list(TWO))]
         rng = random.Random(3)
         wrong.append(random_net(rng, 964))
         for value in wrong:

@@ -216,6 +216,13 @@ class QuotientsTest(unittest.TestCase):
                          lambda n: over_both(PAIR, 0, n, None)):
                 with self.assertRaises(BadNet):
                     call(value)
+        broken = ((1, 0, 3, 2), (0, 1, 2, 3), (2, 3, 0, 1))
+        for call in (fold_map, lambda n, other: is_fold_map(n, other, None)):
+            for nets, word in (((broken, SPHERE), "still"), ((broken, None), "still"), ((None, broken), "form"),
+                               ((PAIR, broken), "still")):
+                with self.assertRaises(BadNet) as caught:
+                    call(*nets)
+                self.assertEqual(caught.exception.word, word)
         for call in (lambda: fold_map(PAIR, SPHERE), lambda: fold_map(SPHERE, PAIR), lambda: is_fold_map(PAIR, SPHERE, None),
                      lambda: is_fold_map(SPHERE, PAIR, None), lambda: fold_classes(PAIR), lambda: images_of(PAIR),
                      lambda: over_both(PAIR, 0, SPHERE, 0), lambda: over_both(SPHERE, 0, PAIR, 0)):

@@ -59,6 +59,14 @@ class RankingTest(unittest.TestCase):
         with self.assertRaises(TooGreat) as caught:
             word_numbered(10 ** 4300)
         self.assertEqual(caught.exception.most, 20000)
+        # How many words have at most 20,000 characters.
+        counts = [1, 3, 5]
+        while len(counts) <= 20000:
+            counts.append(counts[-1] + counts[-2])
+        self.assertEqual(len(word_numbered(sum(counts) - 1)), 20000)
+        with self.assertRaises(TooGreat) as caught:
+            word_numbered(sum(counts))
+        self.assertEqual(caught.exception.most, 20000)
 
     def test_next_words(self):
         words = reduced_words_up_to(6)

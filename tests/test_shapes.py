@@ -136,6 +136,8 @@ class ShapesTest(unittest.TestCase):
             with self.assertRaises(BadLikeness) as caught:
                 need_likeness(SPHERE, SPHERE, value)
             self.assertEqual(caught.exception.place, place)
+            self.assertIs(is_likeness(SPHERE, SPHERE, value), False)
+        self.assertIs(is_likeness(SPHERE, SPHERE, (3, 2, 1, 0)), True)
         double = beside(SPHERE, SPHERE)
         with self.assertRaises(BadLikeness) as caught:
             need_likeness(double, double, (0, 1, 2, 3, 0, 1, 2, 3))
@@ -157,6 +159,14 @@ class ShapesTest(unittest.TestCase):
             for call in calls:
                 with self.assertRaises(BadNet):
                     call(value)
+        broken = ((1, 0, 3, 2), (0, 1, 2, 3), (2, 3, 0, 1))
+        for call in (likeness, are_alike, lambda net, other: is_likeness(net, other, None),
+                     lambda net, other: need_likeness(net, other, None)):
+            for nets, word in (((broken, SPHERE), "still"), ((broken, None), "still"), ((None, broken), "form"),
+                               ((SPHERE, broken), "still")):
+                with self.assertRaises(BadNet) as caught:
+                    call(*nets)
+                self.assertEqual(caught.exception.word, word)
         for flag in NO_INTEGERS + [-1, 8]:
             with self.assertRaises(BadFlag):
                 reading_from(PAIR, flag)

@@ -151,6 +151,16 @@ class TurningsTest(Case):
         behind = moved(TWOFOLD_OF_SIX, ("01" * 18, "", "", "", "21" * 18, ""))
         self.assertEqual(blind_to(behind), blind_to(TWOFOLD_OF_SIX))
         self.assertEqual(self.told(TooGreat, "most", taken_up, behind), 60)
+        # "twist" makes 60 characters of 40.
+        rest = ("",) * 5
+        sixty = moved(TWOFOLD_OF_SIX, ("01" * 20,) + rest)
+        self.assertEqual(max(len(word) for row in after_slowly(NAMED["twist"], sixty) for _, word in row), 60)
+        self.assertEqual(taken_up(sixty), taken_up(TWOFOLD_OF_SIX))
+        self.assertEqual(blind_to(sixty), blind_to(TWOFOLD_OF_SIX))
+        more = moved(TWOFOLD_OF_SIX, ("1" + "01" * 20,) + rest)
+        self.assertEqual(max(len(word) for row in after_slowly(NAMED["twist"], more) for _, word in row), 62)
+        self.assertEqual(self.told(TooGreat, "most", taken_up, more), 60)
+        self.assertEqual(self.told(TooGreat, "most", blind_to, more), 60)
         shorter = moved(SAME, ("01" * 9,))
         self.assertEqual(taken_up(shorter), (0, 1, 2, 3, 4, 5))
         self.assertEqual(blind_to(shorter), (0,))
