@@ -50,15 +50,20 @@ def _fails(deed, rule, cell):
     return both_steps(deed, cell, 0, 2) == (cell, "")
 
 
-def rule_broken(deed):
-    """None for a deed, otherwise the pair of the rule that fails and the least cell."""
-    if not _has_deed_form(deed):
-        return "form", None
+def rule_behind_form(deed):
+    """The pair of a rule behind "form" that fails and the least cell, or None; words may have any length."""
     for rule in ("back", "still", "square", "apart"):
         for cell in range(len(deed[0])):
             if _fails(deed, rule, cell):
                 return rule, cell
     return None
+
+
+def rule_broken(deed):
+    """None for a deed, otherwise the pair of the rule that fails and the least cell."""
+    if not _has_deed_form(deed):
+        return "form", None
+    return rule_behind_form(deed)
 
 
 def need_deed(deed):

@@ -77,8 +77,8 @@ def _has_renaming_form(deed, other_deed, value):
     return True
 
 
-def _is_led(deed, other_deed, value, cell):
-    """Whether a renaming leads the steps of a cell rightly."""
+def is_led(deed, other_deed, value, cell):
+    """Whether a renaming, with words of any length, leads the steps of a cell rightly."""
     cells, words = value
     for change, row in enumerate(deed):
         there, word = row[cell]
@@ -93,7 +93,7 @@ def told_renaming(deed, other_deed, value):
     if not _has_renaming_form(deed, other_deed, value):
         raise BadRenaming(None)
     for cell in range(len(deed[0])):
-        if not _is_led(deed, other_deed, value, cell):
+        if not is_led(deed, other_deed, value, cell):
             raise BadRenaming(cell)
     return value
 

@@ -65,6 +65,23 @@ INTERFACE = {
         cycle_after(deed, net, flag, word, times, modulus)""",
     "dyes": """is_sign(value) ; need_sign(sign) ; count_of(word, sign) ; together(sign, other_sign) ; dyeing(net, sign)
         signs_of(net) ; dyeing_paper(net, sign) ; is_dyeing_paper(net, sign, paper) ; common_signs(wordlist)""",
+    "surfaces": """is_two_sided(net) ; surface(net) ; surfaces(net) ; surface_word(pair)""",
+    "signs": """sign_table(deed) ; sides_rule(deed) ; sign_paper(deed, sign) ; is_sign_paper(deed, sign, paper)
+        is_table_of_signs(value) ; need_table_of_signs(table) ; signs_after(table, other_table)
+        made_signs(table, net_signs)""",
+    "covers": """cover(net, wished) ; independent_signs(net, wished) ; least_cover(net, wished)
+        exchange(deed, net, sign)""",
+    "meetings": """is_place_pair(value) ; closings_of(deed, cell, pair) ; links(deed, cell, pair)
+        crossing(deed, cell, walk, pair) ; meeting(deed, cell, walk, pair)""",
+    "coming": """flags_met(deed, net, cell, walk, pair) ; net_where(deed, cell, walk, pair)
+        net_without(deed, cell, walk, pair) ; first_net(deed, cell, walk, pair, many)""",
+    "faults": """faults_of(net, name) ; fault_table(deed) ; is_clean(deed, name) ; faults_made(deed, net, name)
+        first_fault(deed, net)""",
+    "witnesses": """meeting_paper(deed, cell, walk, pair) ; is_meeting_paper(deed, cell, walk, pair, paper)
+        cleaning(deed, name)""",
+    "sources": """sources(deed, net) ; comes_of(deed, net) ; refusal_to_come(deed, net)
+        need_refusal_to_come(deed, net, paper) ; deed_sources(deed, other_deed)""",
+    "books": """need_book(book) ; script_deed(book, script)""",
     "refusing": """refusals(deed, other_deed) ; need_refusal(deed, other_deed, value)""",
 }
 
