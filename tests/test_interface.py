@@ -82,8 +82,25 @@ INTERFACE = {
     "sources": """sources(deed, net) ; comes_of(deed, net) ; refusal_to_come(deed, net)
         need_refusal_to_come(deed, net, paper) ; deed_sources(deed, other_deed)""",
     "books": """need_book(book) ; script_deed(book, script)""",
+    "origins": """origins(book, deed) ; net_origins(book, net) ; net_roots(book, net)""",
+    "searching": """shortest_script(book, deed) ; scripts_of_cells(book, many) ; left_out(book) ; least_book(book)""",
+    "lettering": """is_name(value)""",
+    "texts": """word_item(word) ; net_text(net) ; deed_text(deed) ; script_text(script)""",
+    "scripts": """need_script(script) ; script_names(script) ; need_named_book(book)""",
+    "parsing": """parse_net(text) ; parse_deed(text) ; parse_script(text)""",
+    "valued": """script_cells(script, book) ; script_done(script, book, net) ; script_least(script, book)
+        are_alike_scripts(script, other_script, book) ; script_dye(script, book, sign)""",
+    "sheets": """sheet_entries(text) ; judged(text)""",
+    "live": """under(manager, act)""",
+    "logs": """log_text(board) ; read_log(text)""",
     "refusing": """refusals(deed, other_deed) ; need_refusal(deed, other_deed, value)""",
 }
+
+
+BOARD = """enter(deed) ; late(number, deed) ; strike(number) ; melt(number) ; swap(number, deed, pair)
+    pin(name, address) ; unpin(name) ; undo(times) ; again(times) ; trial() ; copy() ; pinned(name) ; names_at(address)
+    number_of(address) ; address_of(number) ; lead(address, word) ; cycle_length(address, word) ; degree(address, pair)
+    carried(number, deed, pair, address) ; cycles(word) ; counts() ; has_dyeing(sign) ; built() ; as_deed()"""
 
 
 def told(text):
@@ -103,6 +120,22 @@ class InterfaceTest(unittest.TestCase):
                 self.assertTrue(inspect.isfunction(function), name)
                 self.assertEqual(function.__module__, module.__name__)
                 self.assertEqual(list(inspect.signature(function).parameters), parameters)
+
+    def test_board(self):
+        from netsredrawn.live import Board
+        self.assertEqual(Board.__module__, "netsredrawn.live")
+        self.assertEqual(list(inspect.signature(Board).parameters), ["net"])
+        for name, parameters in told(BOARD):
+            method = vars(Board)[name]
+            self.assertTrue(inspect.isfunction(method), name)
+            self.assertEqual(list(inspect.signature(method).parameters), ["self"] + [part for part in parameters if part], name)
+        for name in ("undo", "again"):
+            times = inspect.signature(vars(Board)[name]).parameters["times"]
+            self.assertEqual((times.kind, times.default), (inspect.Parameter.KEYWORD_ONLY, 1))
+        self.assertIsInstance(vars(Board)["size"], property)
+        self.assertIn("__eq__", vars(Board))
+        board = Board(net=((1, 0, 3, 2), (2, 3, 0, 1), (2, 3, 0, 1)))
+        self.assertEqual((board.record, board.pins, board.size), ((), (), 4))
 
     def test_by_name(self):
         sphere = ((1, 0, 3, 2), (2, 3, 0, 1), (2, 3, 0, 1))
