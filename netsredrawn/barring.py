@@ -1,13 +1,15 @@
 """Why a flag stands for cell 0 in no source of a joined net by a whole deed, unchecked.
 
-Flags that stand for cell 0 are led to one another by homes as changes would lead the flags of
-the source. Walks from cell 0 to cell 0 that gather "" must leave them; what makes all of these
-is looked at: each walk against the homes that gather the same, and the rules of changes.
+The flags are folded together along the words of the deed, as far as the source would have it,
+and the walks by which they come together are told. Such walks may be very long. Those that are
+made of homes are bounded: flags of cell 0 are led to one another by homes as changes would
+lead the flags of the source; walks from cell 0 to cell 0 that gather "" must leave them, and
+what makes all of these is looked at: each walk against the homes that gather the same, and the
+rules of changes.
 """
 
-from netsredrawn.cellwebs import home_walks
 from netsredrawn.errors import TooGreat
-from netsredrawn.pasts import all_cells, net_steps
+from netsredrawn.pasts import all_cells, folded_web, net_steps, step_from
 from netsredrawn.steps import word_action
 from netsredrawn.syllables import back_text, joined_text, reduced_text, spelled_out
 from netsredrawn.walks import cell_walks, closed_walks, walked_codes
@@ -42,11 +44,11 @@ def _short_walks(deed):
 
 
 def _short_homes(deed):
-    """Homes of a whole deed, of at most twelve characters where there are such."""
+    """Homes of a deed, of at most twelve characters, or None where there are none such."""
     short = _short_walks(deed)
     if "0" in short and "1" in short and "2" in short:
         return [short["0"], short["1"], short["2"]]
-    return list(home_walks(deed))
+    return None
 
 
 def _homeward(homes, word):
@@ -126,19 +128,82 @@ def _away_rows(net, deed, root):
     return rows
 
 
+def _homely_rows(net, deed, flags):
+    """The rows of the flags of cell 0 by walks made of homes, or None if there is a source."""
+    homes = _short_homes(deed)
+    if homes is None:
+        raise TooGreat(MOST_SIGNS)
+    rows = _moved_rows(net, flags, _like_walks(deed, homes))
+    if rows is None:
+        rows = _mirror_rows(net, flags, homes)
+    return rows
+
+
+def _walk_steps(net):
+    """The steps of a net, each of which gathers itself as a walk."""
+    return tuple([tuple([(there, str(change)) for there in row]) for change, row in enumerate(net)])
+
+
+def _found_place(web, node):
+    """The pair of the place of a node and the walk that leads there."""
+    there, walk = web.found(node)
+    if walk is None:
+        return there, ""
+    return there, walk
+
+
+def _folded_rows(flags, places):
+    """The rows of flags of cell 0 of which some have one place."""
+    rows = {}
+    for flag in flags:
+        there, walk = places[flag]
+        others = [places[other][1] for other in flags if other != flag and places[other][0] == there]
+        _, other_walk = min([(len(other), other) for other in others])
+        rows[flag] = ("moved", _limited(joined_text(walk, back_text(other_walk))))
+    return rows
+
+
+def _still_walks(web, there):
+    """The walks that gather a change, or the changes 0 and 2, and lead from a place to itself."""
+    steps = [step_from(web, there, change) for change in range(3)]
+    second = step_from(web, steps[0][0], 2)
+    steps.append((second[0], joined_text(steps[0][1], second[1])))
+    return [walk for end, walk in steps if end == there]
+
+
+def _web_rows(net, deed, cells, flags):
+    """The rows of the flags of cell 0 by walks on which flags come together, or None if there is a source."""
+    web, nodes = folded_web(_walk_steps(net), deed, cells)
+    places = {flag: _found_place(web, nodes[flag]) for flag in flags}
+    met = {places[flag][0]: True for flag in flags}
+    if len(met) < len(flags):
+        return _folded_rows(flags, places)
+    for flag in flags:
+        there, way = places[flag]
+        for walk in _still_walks(web, there):
+            around = joined_text(joined_text(way, walk), back_text(way))
+            return _carried_rows(net, flags, flag, "mirror", around)
+    return None
+
+
+def _zero_rows(net, deed, cells):
+    """The rows of the flags that have cell 0, or None if there is a source in which they stand for it."""
+    flags = [flag for flag, cell in enumerate(cells) if cell == 0]
+    try:
+        rows = _web_rows(net, deed, cells, flags)
+    except TooGreat:
+        return _homely_rows(net, deed, flags)
+    return rows
+
+
 def barred_flags(deed, net):
     """For each flag the row that refuses it, or None if the net has a source."""
-    homes = _short_homes(deed)
-    pairs = _like_walks(deed, homes)
     rows = {}
     for cells in all_cells(net_steps(net), deed):
-        flags = [flag for flag, cell in enumerate(cells) if cell == 0]
-        told = _moved_rows(net, flags, pairs)
-        if told is None:
-            told = _mirror_rows(net, flags, homes)
+        told = _zero_rows(net, deed, cells)
         if told is None:
             return None
-        for flag in flags:
+        for flag in told:
             rows[flag] = told[flag]
     for flag in range(len(net[0])):
         if flag not in rows:

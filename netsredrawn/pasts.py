@@ -11,7 +11,7 @@ from netsredrawn.deeds import rule_behind_form
 from netsredrawn.least import least_rows
 from netsredrawn.renamings import is_led
 from netsredrawn.sequence import after_rows
-from netsredrawn.syllables import ONE, coded
+from netsredrawn.syllables import coded
 
 
 def net_steps(net):
@@ -44,7 +44,7 @@ def all_cells(steps, deed):
     return [cells for cells in told if cells is not None]
 
 
-def _folded_web(steps, deed, cells):
+def folded_web(steps, deed, cells):
     """The web of the places, folded along the words of the deed, and the node of each place."""
     web = CellWeb(Walks())
     nodes = [0]
@@ -61,7 +61,7 @@ def _folded_web(steps, deed, cells):
     return web, nodes
 
 
-def _step_from(web, node, change):
+def step_from(web, node, change):
     """The pair of the node to which a change leads from one, and the word that it gathers; None if nowhere."""
     row = None
     if change != 1:
@@ -85,7 +85,7 @@ def _web_steps(web, most):
     at = 0
     while at < len(order) and len(order) <= most:
         for change in range(3):
-            told = _step_from(web, order[at], change)
+            told = step_from(web, order[at], change)
             if told is None:
                 return None
             there, word = told
@@ -108,7 +108,7 @@ def past_steps(steps, deed, cells):
     many = len(deed[0])
     if len(cells) % many != 0:
         return None
-    web, nodes = _folded_web(steps, deed, cells)
+    web, nodes = folded_web(steps, deed, cells)
     told = _web_steps(web, len(cells) // many)
     if told is None:
         return None

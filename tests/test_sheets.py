@@ -356,7 +356,7 @@ class LogsTest(Told):
         for more, line, column in (
                 ("\n", 3, 0), ("\nenter", 3, 5), ("\nenter\n", 4, 0), ("\nenter ", 3, 5), ("\nundone", 3, 6), ("\nundone\n", 4, 0),
                 ("\nundone\nundone", 4, 2), ("\nun", 3, 2), ("\nux", 3, 1), ("\nstrike 100", 3, 9), ("\nstrike 00", 3, 8), ("\nmelt", 3, 4),
-                ("\nlate 0", 3, 6), ("\npin a", 3, 5), ("\npin a ", 3, 6), ("\npin a 0.", 3, 8), ("\npin a 1000", 3, 9), ("\npin a 0 ", 3, 7),
+                ("\nlate 0", 3, 6), ("\npin a", 3, 5), ("\npin a ", 3, 6), ("\npin a 0.", 3, 8), ("\npin a 1000", 3, 9), ("\npin a 0.1000", 3, 11), ("\npin a 0.00", 3, 9), ("\npin a 999.999.9999", 3, 17), ("\npin a 0 ", 3, 7),
                 ("\npin " + "a" * 13, 3, 16), ("\nunpin a b", 3, 7), ("\n" + enter + "\n-", 5, 1), ("\n" + enter + "\n= ", 5, 0),
                 ("\nswap 0\n- 0:2 0:1 0:0", 4, 13), ("\nswap 0\n- 0:2 0:1 0:0\n", 5, 0), ("\nswap 0\n- 0:2 0:1 0:0\n= 0:-\n=", 6, 0),
                 ("\nswap 0\n- 0:2 0:1 0:0\n= 100", 5, 4), ("\nswap 0\n- 0:2 0:1 0:0\n= 0:3", 5, 4), (" ", 2, 7), ("\nstrike 0\nundone", 4, 6),

@@ -102,7 +102,7 @@ class SurfacesTest(Told):
                          ["sphere", "1 handles", "2 handles", "1" + "0" * 30 + " handles"])
         self.assertEqual([surface_word((1, many)) for many in (1, 7, 10 ** 30)],
                          ["1 caps", "7 caps", "1" + "0" * 30 + " caps"])
-        for value in OTHERS + [(1, 0), (2, -1), (2, 10 ** 30 + 1), (1, 10 ** 30 + 1), (0, 1), (3, 1), (2,), (2, 0, 0),
+        for value in OTHERS + [(1, 0), (2, -1), (2, 10 ** 30 + 1), (1, 10 ** 30 + 1), (0, 1), (0, 5), (-1, 5), (3, 1), (3, 5), (2,), (2, 0, 0),
                                [2, 0], "20", (2, None), (2, "0"), (2, True), (True, 1), ("2", 0), (None, 0), 2, ((2, 0),)]:
             self.assertIs(self.told(BadPair, "value", surface_word, value), value)
 
@@ -207,7 +207,7 @@ class SignsTest(Told):
             for other in (None, 0, ("0",), walk + "3", [walk], b"0"):
                 self.assertIs(is_sign_paper(deed, sign, ("never", before + (other,) + behind)), False)
         for wrong in (("never", list(walks)), ("never", walks[:7]), ("never", walks + ("",)), ("never",), ["never", walks],
-                      ("never", walks, 0), ("sign", walks), ("sign", 0, walks), ("sign", 0, (0,) * len(deed[0]))):
+                      ("never", walks, 0), ("sign", walks), ("nevers", walks), (0, walks), ("sign", 0, walks), ("sign", 0, (0,) * len(deed[0]))):
             self.assertIs(is_sign_paper(deed, sign, wrong), False)
 
     def test_a_walk_of_many_characters(self):

@@ -8,6 +8,7 @@ from common import NO_INTEGERS, OTHERS, STRANGE, led, random_joined_net, random_
 from deed_common import (
     APART, HOMELESS, NAMED, TWOFOLD, TWOFOLD_OF_SIX, after_slowly, done_slowly, fault_slowly, moved_slowly, patched_deed,
     random_deed, walked_slowly)
+from netsredrawn import barring
 from netsredrawn.books import need_book, script_deed
 from netsredrawn.errors import BadDeed, BadNet, BadPaper, BadScript, NotJoined, NotWhole, TooGreat
 from netsredrawn.homes import is_whole_deed
@@ -70,15 +71,8 @@ class SourcesTest(Told):
 
     def look_at_rows(self, deed, net, paper):
         self.assertEqual(len(paper), len(net[0]))
-        for flag, (kind, walk) in enumerate(paper):
-            cell, gathered = walked_slowly(deed, 0, walk)
-            there = led(net, flag, walk)
-            if kind == "away":
-                self.assertTrue(there == flag and cell != 0)
-            elif kind == "moved":
-                self.assertTrue(there != flag and cell == 0 and gathered == "")
-            else:
-                self.assertTrue(kind == "mirror" and there == flag and cell == 0 and is_mirror(gathered))
+        for flag, row in enumerate(paper):
+            self.assertTrue(is_right_row(deed, net, flag, row))
 
     def test_what_was_done(self):
         rng = random.Random(1)
@@ -167,6 +161,29 @@ class SourcesTest(Told):
                     kinds |= {kind for kind, _ in paper or ()}
         self.assertIn("away", kinds)
 
+    def test_walks_made_of_homes(self):
+        # Walks by which flags come together are told first; those made of homes have a bound.
+        rng = random.Random(7)
+        kinds = {}
+        deeds = [HALF, TWIN, CUT, NAMED["middle"], NAMED["wheel"], TWOFOLD, SAME]
+        nets = list(all_nets(8) + all_nets(12)) + [random_joined_net(rng, 16) for _ in range(10)]
+        for deed, net in itertools.product(deeds, nets):
+            for cells in barring.all_cells(barring.net_steps(net), deed):
+                flags = [flag for flag, cell in enumerate(cells) if cell == 0]
+                rows = barring._homely_rows(net, deed, flags)
+                self.assertEqual(rows is None, sources_with(deed, net, flags[0]))
+                if rows is not None:
+                    self.assertEqual(sorted(rows), flags)
+                    for flag in flags:
+                        kinds[rows[flag][0]] = kinds.get(rows[flag][0], 0) + 1
+                        self.assertTrue(is_right_row(deed, net, flag, rows[flag]))
+        self.assertEqual(sorted(kinds), ["mirror", "moved"])
+        self.assertGreater(min(kinds.values()), 10)
+        with self.assertRaises(TooGreat):
+            barring._homely_rows(SPHERE, HOMELESS, [0])
+        self.assertEqual(self.told(TooGreat, "most", barring._limited, "0" * 20001), 20000)
+        self.assertEqual(barring._limited("0" * 20000), "0" * 20000)
+
     def test_papers(self):
         # Of a ring of three edges by "half": steps come back to the other cell.
         net = ring(3)
@@ -243,6 +260,39 @@ def is_joined_slowly(net):
     for flag in met:
         met += [row[flag] for row in net if row[flag] not in met]
     return len(set(met)) == len(net[0])
+
+
+def sources_with(deed, net, flag):
+    """Whether the flag stands for cell 0 in some source, looked at by way of the likenesses that are told."""
+    for source, images in sources(deed, net):
+        made = done_slowly(deed, source)
+        for root in range(0, len(made[0]), len(deed[0])):
+            if follows(made, root, net, flag):
+                return True
+    return False
+
+
+def follows(net, root, other, flag):
+    """Whether the one flag can be led to the other one along with all changes."""
+    met = {root: flag}
+    waiting = [root]
+    for here in waiting:
+        for row, other_row in zip(net, other):
+            there, image = row[here], other_row[met[here]]
+            if there not in met:
+                met[there] = image
+                waiting.append(there)
+            elif met[there] != image:
+                return False
+    return len(set(met.values())) == len(net[0])
+
+
+def is_right_row(deed, net, flag, row):
+    kind, walk = row
+    cell, gathered = walked_slowly(deed, 0, walk)
+    there = led(net, flag, walk)
+    return {"away": there == flag and cell != 0, "moved": there != flag and cell == 0 and gathered == "",
+            "mirror": there == flag and cell == 0 and is_mirror(gathered)}[kind]
 
 
 class DeedSourcesTest(Told):
