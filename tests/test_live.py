@@ -735,6 +735,19 @@ class LimitsTest(Told):
             tally = further
         return sum(cycle_number(board.first, each) * often for each, often in tally.items())
 
+    def test_two_hundred_words(self):
+        # Found by trying: of these boards the last tally has just 200, and 201, unlike words.
+        for seed, great in ((1079, False), (153, True), (101132, False), (1849, True)):
+            rng = random.Random(seed)
+            record = [patched_deed(rng, 24, 2) for _ in range(4)]
+            word = rng.choice(("01", "12", "0121", "01021"))
+            board = board_of(ring(3), *record)
+            self.assertEqual(self.tally_slowly(board, word) == "200", great)
+            if great:
+                self.assertEqual(self.told(TooGreat, "most", board.cycles, word), 200)
+            else:
+                self.assertEqual(board.cycles(word), self.tally_slowly(board, word))
+
     def test_the_first_tally(self):
         board = Board(ring(3))
         ring_word = rewritten("0121" * 250)

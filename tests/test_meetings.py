@@ -522,7 +522,8 @@ class WitnessesTest(Told):
             self.assertIs(is_meeting_paper(deed, cell, walk, pair, ("sometimes", wrong, without)), False)
             self.assertIs(is_meeting_paper(deed, cell, walk, pair, ("sometimes", where, wrong)), False)
         for wrong in (("sometimes", where), ("sometimes",), ("sometimes", where, without, 0), ["sometimes", where, without],
-                      ("always", where, without), ("never", where, without), (None, where, without)):
+                      ("always", where, without), ("never", where, without), (None, where, without),
+                      ("other", where, without), ("", where, without)):
             self.assertIs(is_meeting_paper(deed, cell, walk, pair, wrong), False)
         for number in range(len(net[0])):
             right = number in met_slowly(deed, net, cell, walk, pair)

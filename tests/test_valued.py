@@ -119,6 +119,11 @@ class ValuedTest(Told):
                 told = least_deed(after_slowly(told, NAMED[name]))
             self.assertEqual(script_least(script, BOOK), told)
         self.assertGreater(min(counts.values()), 3)
+        for text in ("(half*4 cut)", "(cut half*4)", "(half*3 cut middle)"):
+            script = parse_script(text)
+            self.assertEqual(script_cells(script, BOOK), 48)
+            self.assertEqual(script_least(script, BOOK),
+                             least_deed(script_of(tuple(NAMED[name] for name in script_names(script)))))
         self.assertEqual(script_least("half", BOOK), least_deed(HALF))
         self.assertEqual(script_least(("times", "half", 5), BOOK), least_deed(script_of((HALF,) * 5)))
         self.assertEqual(self.told(TooGreat, "most", script_least, ("times", "half", 6), BOOK), 48)
