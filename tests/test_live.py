@@ -739,7 +739,7 @@ class LimitsTest(Told):
         # Found by trying: of these boards the last tally has just 200, and 201, unlike words.
         for seed, great in ((1079, False), (153, True), (101132, False), (1849, True)):
             rng = random.Random(seed)
-            record = [patched_deed(rng, 24, 2) for _ in range(4)]
+            record = [patched_deed(rng, 24, 2) for _ in range(4)][::-1]
             word = rng.choice(("01", "12", "0121", "01021"))
             board = board_of(ring(3), *record)
             self.assertEqual(self.tally_slowly(board, word) == "200", great)
