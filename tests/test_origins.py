@@ -3,6 +3,7 @@
 import itertools
 import random
 import unittest
+import unittest.mock
 
 from common import NO_INTEGERS, OTHERS, random_joined_net
 from deed_common import APART, HOMELESS, NAMED, after_slowly, done_slowly, fault_slowly, moved_slowly, patched_deed
@@ -178,6 +179,25 @@ class OriginsTest(Told):
         self.assertGreater(max(counts), 30)
         need_few([0] * 200)
         self.assertEqual(self.told(TooGreat, "most", need_few, [0] * 201), 200)
+        deed, net = deed_of(book, (2,) * 5), ring(16)
+        for call, thing in ((origins, deed), (net_origins, net)):
+            many = len(call(book, thing))
+            with unittest.mock.patch("netsredrawn.coursing.MOST_ORIGINS", many):
+                self.assertEqual(len(call(book, thing)), many)
+            with unittest.mock.patch("netsredrawn.coursing.MOST_ORIGINS", many - 1):
+                self.assertEqual(self.told(TooGreat, "most", call, book, thing), many - 1)
+                if call is origins:
+                    self.assertEqual(self.told(TooGreat, "most", shortest_script, book, thing), many - 1)
+
+    def test_deeds_in_any_order(self):
+        # Of two deeds of which either may be done first the lesser number stands first.
+        twice = deed_of((HALF,), (0, 0))
+        thrice = deed_of((HALF,), (0, 0, 0))
+        for book, course in (((HALF, twice), (0, 1)), ((twice, HALF), (0, 1))):
+            self.assertEqual(shortest_script(book, thrice), course)
+            self.assertEqual(dict(origins(book, thrice))[SAME], course)
+            self.assertEqual(dict(scripts_of_cells(book, 8))[least_deed(thrice)], course)
+            self.assertEqual(dict(net_origins(book, ring(8)))[least_net(ring(1))], course)
 
     def test_wrong_values(self):
         calls = [origins, shortest_script, net_origins, net_roots, lambda book, _: left_out(book),

@@ -184,6 +184,22 @@ class SourcesTest(Told):
         self.assertEqual(self.told(TooGreat, "most", barring._limited, "0" * 20001), 20000)
         self.assertEqual(barring._limited("0" * 20000), "0" * 20000)
 
+    def test_short_walks(self):
+        walks = [""]
+        for walk in walks:
+            walks += [walk + sign for sign in "012" if len(walk) < 13 and rewritten(walk + sign) == walk + sign]
+        for deed in (HALF, CUT):
+            gathered = {}
+            for walk in walks:
+                there, word = walked_slowly(deed, 0, walk)
+                if there == 0:
+                    gathered.setdefault(word, walk)
+            told = barring._short_walks(deed)
+            self.assertEqual(set(told), {word for word in gathered if len(gathered[word]) <= 12})
+            self.assertIn(13, {len(walk) for walk in gathered.values()})
+            for word, walk in told.items():
+                self.assertEqual((walked_slowly(deed, 0, walk), len(walk)), ((0, word), len(gathered[word])))
+
     def test_papers(self):
         # Of a ring of three edges by "half": steps come back to the other cell.
         net = ring(3)
@@ -326,6 +342,28 @@ class DeedSourcesTest(Told):
             again = after_slowly(source, deed)
             if fault_slowly(again) is None:
                 self.assertTrue(are_alike_deeds(again, both))
+
+    def test_behind_spoilt_deeds(self):
+        # One word of a step 1 is another one than what two deeds would make: mostly nothing leads there any more.
+        rng = random.Random(13)
+        counts = {True: 0, False: 0}
+        while min(counts.values()) < 25:
+            first, second = whole_deed(rng, 4), whole_deed(rng, 4)
+            both = after_slowly(first, second)
+            cells = [cell for cell in range(len(both[0])) if both[1][cell][0] != cell]
+            if not cells:
+                continue
+            ones = list(both[1])
+            cell = rng.choice(cells)
+            there, word = ones[cell]
+            word = rewritten(word + random_word(rng, 4))
+            ones[cell], ones[there] = (there, word), (cell, rewritten(word[::-1]))
+            spoilt = (both[0], tuple(ones), both[2])
+            if fault_slowly(spoilt) is not None or not is_whole_deed(spoilt) or len(spoilt[0]) > 16:
+                continue
+            told = deed_sources(second, spoilt)
+            counts[told == ()] += 1
+            self.look_at_sources(second, spoilt, told)
 
     def test_all_sources_of_named_deeds(self):
         deeds = {name: NAMED[name] for name in NAMED}
