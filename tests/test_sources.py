@@ -3,6 +3,7 @@
 import itertools
 import random
 import unittest
+import unittest.mock
 
 from common import NO_INTEGERS, OTHERS, STRANGE, led, random_joined_net, random_word, rewritten
 from deed_common import (
@@ -184,6 +185,47 @@ class SourcesTest(Told):
         self.assertEqual(self.told(TooGreat, "most", barring._limited, "0" * 20001), 20000)
         self.assertEqual(barring._limited("0" * 20000), "0" * 20000)
 
+    def test_what_is_made_of_no_nets(self):
+        # What a deed makes of a triple that is no net may be one all the same: no change leads a flag to itself
+        # there. Then no source is told by way of this triple, but a mirror is.
+        rng = random.Random(8)
+        kinds = {}
+        while len(kinds) < 4 or min(kinds.values()) < 5:
+            deed = whole_deed(rng, 8)
+            loose = loose_triple(rng, rng.choice((2, 3, 4, 6)))
+            still = [sign for sign, row in zip(("0", "1", "2", "02"), loose + (tuple(loose[2][there] for there in loose[0]),))
+                     if any(flag == there for flag, there in enumerate(row))]
+            made = done_slowly(deed, loose)
+            if len(still) != 1 or not is_net(made) or not is_joined_slowly(made):
+                continue
+            kinds[still[0]] = kinds.get(still[0], 0) + 1
+            found, paper = self.look_at_sources(deed, made)
+            if paper is not None:
+                self.assertIn("mirror", {kind for kind, _ in paper})
+
+    def test_walks_that_are_too_long(self):
+        # With another limit it is seen that walks made of homes are told where others are too long.
+        deeds = (HALF, TWIN, CUT, NAMED["middle"], TWOFOLD)
+        seen = {}
+        for deed, net in itertools.product(deeds, all_nets(8) + all_nets(12)):
+            paper = refusal_to_come(deed, net)
+            longest = max(len(walk) for _, walk in paper) if paper else 0
+            with unittest.mock.patch("netsredrawn.barring.MOST_SIGNS", longest):
+                self.assertEqual(refusal_to_come(deed, net), paper)
+            if longest > 0:
+                with unittest.mock.patch("netsredrawn.barring.MOST_SIGNS", longest - 1):
+                    try:
+                        other = refusal_to_come(deed, net)
+                    except TooGreat as error:
+                        self.assertEqual(error.most, longest - 1)
+                        seen["too great"] = True
+                    else:
+                        seen["other"] = True
+                        self.look_at_rows(deed, net, other)
+                        self.assertLess(max(len(walk) for _, walk in other), longest)
+        self.assertIn("too great", seen)
+        self.assertIn("other", seen)
+
     def test_short_walks(self):
         walks = [""]
         for walk in walks:
@@ -269,6 +311,22 @@ class SourcesTest(Told):
                     call(deed, parted)
             self.assertEqual(self.told(NotJoined, "flag", call, HALF, parted), 4)
         self.assertEqual(self.told(BadPaper, "word", need_refusal_to_come, HALF, SPHERE, None), "form")
+
+
+def loose_triple(rng, many):
+    """Three changes that are their own back ways, 0 then 2 leading where 2 then 0 does; they may leave flags."""
+    while True:
+        rows = []
+        for _ in range(3):
+            row = list(range(many))
+            rest = rng.sample(range(many), many)
+            while len(rest) > 1:
+                low, high = rest.pop(), rest.pop()
+                if rng.random() < 0.8:
+                    row[low], row[high] = high, low
+            rows.append(tuple(row))
+        if all(rows[2][rows[0][flag]] == rows[0][rows[2][flag]] for flag in range(many)):
+            return tuple(rows)
 
 
 def is_joined_slowly(net):
