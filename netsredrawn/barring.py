@@ -67,7 +67,7 @@ def _like_walks(deed, homes):
         gathered = spelled_out(walked_codes(deed, 0, walk)[1])
         pairs.append((walk, _homeward(homes, gathered)))
     # Shorter pairs make shorter walks.
-    return [pair for _, pair in sorted([(len(pair[0]) + len(pair[1]), pair) for pair in pairs])]
+    return [pair for _, pair in sorted([(len(each[0]) + len(each[1]), each) for each in pairs])]
 
 
 def _moved_rows(net, flags, pairs):

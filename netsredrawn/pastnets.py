@@ -15,10 +15,9 @@ def _past_net(net, deed, cells):
     past = past_steps(net_steps(net), deed, cells)
     if past is None:
         return None
-    rows, spots, _ = past
-    source = tuple([tuple([there for there, _ in row]) for row in rows])
+    source = tuple([tuple([there for there, _ in row]) for row in past[0]])
     many = len(deed[0])
-    images = [spot * many + cell for spot, cell in zip(spots, cells)]
+    images = [spot * many + cell for spot, cell in zip(past[1], cells)]
     if not is_net(source) or image_fault(net, made_net(deed, source), images) is not None:
         return None
     return source, images

@@ -68,7 +68,7 @@ def _number_tuples(many):
     rows = [()]
     for number in range(many):
         rows = rows + [row + (number,) for row in rows]
-    return [row for _, row in sorted([(len(row), row) for row in rows])]
+    return [numbers for _, numbers in sorted([(len(row), row) for row in rows])]
 
 
 def least_book(book):

@@ -242,6 +242,20 @@ class SourcesTest(Told):
             for word, walk in told.items():
                 self.assertEqual((walked_slowly(deed, 0, walk), len(walk)), ((0, word), len(gathered[word])))
 
+    def test_short_homes(self):
+        rng = random.Random(9)
+        kinds = set()
+        while len(kinds) < 8:
+            deed = patched_deed(rng, rng.randint(2, 7), rng.randint(1, 8))
+            if is_whole_deed(deed):
+                walks = barring._short_walks(deed)
+                kinds.add(tuple(sign in walks for sign in "012"))
+                told = barring._short_homes(deed)
+                if all(sign in walks for sign in "012"):
+                    self.assertEqual([walked_slowly(deed, 0, walk) for walk in told], [(0, "0"), (0, "1"), (0, "2")])
+                else:
+                    self.assertIsNone(told)
+
     def test_papers(self):
         # Of a ring of three edges by "half": steps come back to the other cell.
         net = ring(3)
